@@ -3,6 +3,11 @@
 NOT_GOOD = -3
 NOT_FITTING = -2
 
+# Where the three numbers stand in the list of what is shown.
+BEGIN = 0
+ASKED = 1
+ANSWER = 2
+
 PRIME_LIMIT = 9223372036854775808
 
 # No composite number below 318665857834031151167461 passes for a prime with all of these twelve
@@ -69,6 +74,15 @@ def is_good(p, q, g):
     return g >= 2 and is_element(p, q, g)
 
 
+def is_shown(p, q, shown):
+    return is_element(p, q, shown[BEGIN]) and is_number(q, shown[ASKED]) and is_number(q, shown[ANSWER])
+
+
+def holds(p, base, y, shown):
+    expected = shown[BEGIN] * power_modulo(y, shown[ASKED], p) % p
+    return power_modulo(base, shown[ANSWER], p) == expected
+
+
 def sg_good(p, q, g):
     return [1] if is_good(p, q, g) else [0]
 
@@ -79,3 +93,19 @@ def sg_power(p, q, g, base, x):
     if not is_element(p, q, base) or not is_number(q, x):
         return [NOT_FITTING]
     return [0, power_modulo(base, x, p)]
+
+
+def sg_answer(p, q, g, r, x, asked):
+    if not is_good(p, q, g):
+        return [NOT_GOOD]
+    if not is_number(q, r) or not is_number(q, x) or not is_number(q, asked):
+        return [NOT_FITTING]
+    return [0, (r + asked * x) % q]
+
+
+def sg_check(p, q, g, y, shown):
+    if not is_good(p, q, g):
+        return [NOT_GOOD]
+    if not is_element(p, q, y) or not is_shown(p, q, shown):
+        return [NOT_FITTING]
+    return [1] if holds(p, g, y, shown) else [0]

@@ -1,4 +1,8 @@
-"""Groups that the tests share, each as (p, q, g)."""
+"""What the tests share: groups, each as (p, q, g), values that fit them or don't, and how a call is tried."""
+
+import copy
+import time
+import unittest
 
 TOP = 2 ** 64 - 1
 
@@ -60,3 +64,53 @@ NOT_GOOD_GROUPS = [
     (TOP, TOP, TOP),
     (TOP, 2, TOP - 1),
 ]
+
+# With these a call has the most to do, or is handed the largest numbers.
+SLOWEST_GROUPS = LARGE_GROUPS + [
+    (TOP, TOP, TOP),
+    (18446744073709551557, 18446744073709551557, TOP),
+]
+
+
+def some_elements(p, q, g):
+    return sorted({1, g, pow(g, q - 1, p), pow(g, q // 2, p), pow(g, 12345 % q, p)})
+
+
+def some_numbers(q):
+    return sorted({0, 1, q // 2, q // 3, 2 % q, q - 1})
+
+
+def not_elements(p, q, g):
+    """0, some of p or above, and the first and last below p of which the power q is not 1, if there are any."""
+    found = [0, p, p + 1, p + g, TOP]
+    for values in (range(2, p), range(p - 1, 1, -1)):
+        found += [value for value in values[:100] if pow(value, q, p) != 1][:1]
+    return found
+
+
+def not_numbers(p, q):
+    return [q, q + 1, 2 * q, p, TOP]
+
+
+def honest(p, q, g, x, r, asked):
+    """What is shown by somebody who knows that y is the power x of g, and begins with the power r."""
+    return [pow(g, r, p), asked, (r + asked * x) % q]
+
+
+def each_replaced(shown, at, values):
+    return [shown[:at] + [value] + shown[at + 1:] for value in values]
+
+
+class CallCase(unittest.TestCase):
+    def answers(self, call, handed_in, expected):
+        before = copy.deepcopy(handed_in)
+        answer = call(*handed_in)
+        self.assertEqual(answer, expected, before)
+        self.assertIs(type(answer), list)
+        self.assertTrue(all(type(value) is int for value in answer), before)
+        self.assertEqual(handed_in, before)
+
+    def comes_back_at_once(self, call, handed_in):
+        start = time.perf_counter()
+        call(*handed_in)
+        self.assertLess(time.perf_counter() - start, 0.5, handed_in)

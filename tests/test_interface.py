@@ -16,6 +16,8 @@ PACKAGE = pathlib.Path(knowing.__file__).parent
 ARGUMENTS = {
     "sg_good": ["p", "q", "g"],
     "sg_power": ["p", "q", "g", "base", "x"],
+    "sg_answer": ["p", "q", "g", "r", "x", "asked"],
+    "sg_check": ["p", "q", "g", "y", "shown"],
 }
 
 USED_OF_PYTHON = {"range"}
@@ -31,6 +33,9 @@ def many_calls():
         calls.append((knowing.sg_good, (p, q, g)))
         for base, x in ((g, 1), (1, 0), (0, 0), (g, q), (TOP, TOP)):
             calls.append((knowing.sg_power, (p, q, g, base, x)))
+            calls.append((knowing.sg_answer, (p, q, g, x, 1, x)))
+            for shown in ([g, 0, 1], [1, 1, 1], [base, x, x]):
+                calls.append((knowing.sg_check, (p, q, g, base, shown)))
     return calls
 
 
@@ -49,6 +54,8 @@ class Interface(unittest.TestCase):
     def test_arguments_by_name(self):
         self.assertEqual(knowing.sg_good(g=2, q=11, p=23), [1])
         self.assertEqual(knowing.sg_power(x=5, base=2, g=2, q=11, p=23), [0, 9])
+        self.assertEqual(knowing.sg_answer(asked=5, x=4, r=3, g=2, q=11, p=23), [0, 1])
+        self.assertEqual(knowing.sg_check(shown=[8, 5, 1], y=16, g=2, q=11, p=23), [1])
 
     def test_nothing_is_kept(self):
         calls = many_calls()
@@ -76,6 +83,14 @@ class Interface(unittest.TestCase):
                 self.assertNotIsInstance(node, (ast.Import, ast.ImportFrom, ast.Attribute), path.name)
                 if isinstance(node, ast.Name) and hasattr(builtins, node.id):
                     self.assertIn(node.id, USED_OF_PYTHON)
+
+    def test_nothing_is_stored_in_what_is_handed_in(self):
+        # With no attribute used either, a list could only be changed, for a while or for good, by its index or by +=.
+        for path in package_files():
+            for node in ast.walk(ast.parse(path.read_text(encoding="utf-8"))):
+                self.assertNotIsInstance(node, ast.AugAssign, path.name)
+                if isinstance(node, ast.Subscript):
+                    self.assertIsInstance(node.ctx, ast.Load, path.name)
 
     def test_size_and_signs(self):
         for path in package_files():

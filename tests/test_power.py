@@ -3,16 +3,8 @@
 import time
 import unittest
 
-from groups import GOOD_GROUPS, LARGE_GROUPS, NOT_GOOD_GROUPS, SAFE_PRIME, TOP
+from groups import GOOD_GROUPS, LARGE_GROUPS, NOT_GOOD_GROUPS, SAFE_PRIME, TOP, some_elements, some_numbers
 from powershown.knowing import sg_power
-
-
-def some_elements(p, q, g):
-    return sorted({1, g, pow(g, q - 1, p), pow(g, q // 2, p), pow(g, 12345 % q, p)})
-
-
-def some_numbers(q):
-    return sorted({0, 1, q // 2, q // 3, 2 % q, q - 1})
 
 
 class Power(unittest.TestCase):
