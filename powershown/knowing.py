@@ -2,6 +2,7 @@
 
 NOT_GOOD = -3
 NOT_FITTING = -2
+NOT_FOUND = -5
 
 # Where the three numbers stand in the list of what is shown.
 BEGIN = 0
@@ -25,6 +26,11 @@ def power_modulo(base, exponent, modulus):
         square = square * square % modulus
         exponent = exponent // 2
     return result
+
+
+def inverse_modulo(value, prime):
+    # By Fermat the power prime - 1 is 1, so the power before it undoes value.
+    return power_modulo(value, prime - 2, prime)
 
 
 def shows_composite(witness, n, odd, twos):
@@ -109,3 +115,25 @@ def sg_check(p, q, g, y, shown):
     if not is_element(p, q, y) or not is_shown(p, q, shown):
         return [NOT_FITTING]
     return [1] if holds(p, g, y, shown) else [0]
+
+
+def sg_make(p, q, g, y, asked, answer):
+    if not is_good(p, q, g):
+        return [NOT_GOOD]
+    if not is_element(p, q, y) or not is_number(q, asked) or not is_number(q, answer):
+        return [NOT_FITTING]
+    # The power q of y is 1, so its power q - asked undoes its power asked.
+    return [0, power_modulo(g, answer, p) * power_modulo(y, q - asked, p) % p]
+
+
+def sg_find(p, q, g, y, s, t):
+    if not is_good(p, q, g):
+        return [NOT_GOOD]
+    if not is_element(p, q, y) or not is_shown(p, q, s) or not is_shown(p, q, t):
+        return [NOT_FITTING]
+    if s[BEGIN] != t[BEGIN] or s[ASKED] == t[ASKED]:
+        return [NOT_FOUND]
+    if not holds(p, g, y, s) or not holds(p, g, y, t):
+        return [NOT_FOUND]
+    # Both begin alike, so the answers are as far apart as x times what was asked.
+    return [0, (s[ANSWER] - t[ANSWER]) * inverse_modulo(s[ASKED] - t[ASKED], q) % q]

@@ -101,6 +101,13 @@ def each_replaced(shown, at, values):
     return [shown[:at] + [value] + shown[at + 1:] for value in values]
 
 
+def not_as_told(p, q, g, shown):
+    """What is shown, with one of its three numbers replaced by one that isn't as told, or that is alike by p or q."""
+    return (each_replaced(shown, 0, not_elements(p, q, g) + [shown[0] + p])
+            + each_replaced(shown, 1, not_numbers(p, q) + [shown[1] + q])
+            + each_replaced(shown, 2, not_numbers(p, q) + [shown[2] + q]))
+
+
 class CallCase(unittest.TestCase):
     def answers(self, call, handed_in, expected):
         before = copy.deepcopy(handed_in)

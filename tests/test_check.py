@@ -2,8 +2,8 @@
 
 import unittest
 
-from groups import (GOOD_GROUPS, NOT_GOOD_GROUPS, SLOWEST_GROUPS, TOP, CallCase, each_replaced, honest, not_elements,
-                    not_numbers, some_elements, some_numbers)
+from groups import (GOOD_GROUPS, NOT_GOOD_GROUPS, SLOWEST_GROUPS, TOP, CallCase, each_replaced, honest, not_as_told,
+                    not_elements, some_elements, some_numbers)
 from powershown.knowing import sg_answer, sg_check, sg_power
 
 
@@ -88,10 +88,7 @@ class Check(CallCase):
             for x, r, asked in ((1, 1, 1), (0, 0, 0), (q - 1, q // 2, q - 1)):
                 y = pow(g, x, p)
                 shown = honest(p, q, g, x, r, asked)
-                wrong = (each_replaced(shown, 0, not_elements(p, q, g) + [shown[0] + p])
-                         + each_replaced(shown, 1, not_numbers(p, q) + [shown[1] + q])
-                         + each_replaced(shown, 2, not_numbers(p, q) + [shown[2] + q]))
-                for other in wrong:
+                for other in not_as_told(p, q, g, shown):
                     self.answers(sg_check, (p, q, g, y, other), [-2])
 
     def test_equation_without_elements(self):

@@ -18,6 +18,8 @@ ARGUMENTS = {
     "sg_power": ["p", "q", "g", "base", "x"],
     "sg_answer": ["p", "q", "g", "r", "x", "asked"],
     "sg_check": ["p", "q", "g", "y", "shown"],
+    "sg_make": ["p", "q", "g", "y", "asked", "answer"],
+    "sg_find": ["p", "q", "g", "y", "s", "t"],
 }
 
 USED_OF_PYTHON = {"range"}
@@ -34,8 +36,11 @@ def many_calls():
         for base, x in ((g, 1), (1, 0), (0, 0), (g, q), (TOP, TOP)):
             calls.append((knowing.sg_power, (p, q, g, base, x)))
             calls.append((knowing.sg_answer, (p, q, g, x, 1, x)))
+            calls.append((knowing.sg_make, (p, q, g, base, 1, x)))
             for shown in ([g, 0, 1], [1, 1, 1], [base, x, x]):
                 calls.append((knowing.sg_check, (p, q, g, base, shown)))
+                calls.append((knowing.sg_find, (p, q, g, base, shown, [1, 0, 0])))
+                calls.append((knowing.sg_find, (p, q, g, base, shown, shown)))
     return calls
 
 
@@ -56,6 +61,8 @@ class Interface(unittest.TestCase):
         self.assertEqual(knowing.sg_power(x=5, base=2, g=2, q=11, p=23), [0, 9])
         self.assertEqual(knowing.sg_answer(asked=5, x=4, r=3, g=2, q=11, p=23), [0, 1])
         self.assertEqual(knowing.sg_check(shown=[8, 5, 1], y=16, g=2, q=11, p=23), [1])
+        self.assertEqual(knowing.sg_make(answer=1, asked=5, y=16, g=2, q=11, p=23), [0, 8])
+        self.assertEqual(knowing.sg_find(t=[8, 2, 0], s=[8, 5, 1], y=16, g=2, q=11, p=23), [0, 4])
 
     def test_nothing_is_kept(self):
         calls = many_calls()
