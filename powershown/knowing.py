@@ -137,3 +137,27 @@ def sg_find(p, q, g, y, s, t):
         return [NOT_FOUND]
     # Both begin alike, so the answers are as far apart as x times what was asked.
     return [0, (s[ANSWER] - t[ANSWER]) * inverse_modulo(s[ASKED] - t[ASKED], q) % q]
+
+
+def sg_same(p, q, g, h, y, z, s, t):
+    if not is_good(p, q, g):
+        return [NOT_GOOD]
+    if not is_element(p, q, h) or not is_element(p, q, y) or not is_element(p, q, z):
+        return [NOT_FITTING]
+    if not is_shown(p, q, s) or not is_shown(p, q, t):
+        return [NOT_FITTING]
+    if s[ASKED] != t[ASKED] or s[ANSWER] != t[ANSWER]:
+        return [NOT_FITTING]
+    return [1] if holds(p, g, y, s) and holds(p, h, z, t) else [0]
+
+
+def sg_either(p, q, g, y, z, asked, s, t):
+    if not is_good(p, q, g):
+        return [NOT_GOOD]
+    if not is_element(p, q, y) or not is_element(p, q, z) or not is_number(q, asked):
+        return [NOT_FITTING]
+    if not is_shown(p, q, s) or not is_shown(p, q, t):
+        return [NOT_FITTING]
+    if (s[ASKED] + t[ASKED]) % q != asked:
+        return [0]
+    return [1] if holds(p, g, y, s) and holds(p, g, z, t) else [0]

@@ -108,6 +108,15 @@ def not_as_told(p, q, g, shown):
             + each_replaced(shown, 2, not_numbers(p, q) + [shown[2] + q]))
 
 
+def right_and_wrong(p, q, g):
+    """Threes: y, what somebody honest shows for it, and the same with one number that isn't as told."""
+    found = []
+    for x, r, asked in ((1, 1, 1), (0, 0, 0), (q - 1, q // 2, q - 1)):
+        right = honest(p, q, g, x, r, asked)
+        found += [(pow(g, x, p), right, wrong) for wrong in not_as_told(p, q, g, right)]
+    return found
+
+
 class CallCase(unittest.TestCase):
     def answers(self, call, handed_in, expected):
         before = copy.deepcopy(handed_in)

@@ -2,8 +2,8 @@
 
 import unittest
 
-from groups import (GOOD_GROUPS, NOT_GOOD_GROUPS, SLOWEST_GROUPS, TOP, CallCase, each_replaced, honest, not_as_told,
-                    not_elements, some_elements, some_numbers)
+from groups import (GOOD_GROUPS, NOT_GOOD_GROUPS, SLOWEST_GROUPS, TOP, CallCase, each_replaced, honest, not_elements,
+                    right_and_wrong, some_elements, some_numbers)
 from powershown.knowing import sg_answer, sg_check, sg_power
 
 
@@ -85,11 +85,9 @@ class Check(CallCase):
 
     def test_one_of_shown_is_not_as_told(self):
         for p, q, g in GOOD_GROUPS:
-            for x, r, asked in ((1, 1, 1), (0, 0, 0), (q - 1, q // 2, q - 1)):
-                y = pow(g, x, p)
-                shown = honest(p, q, g, x, r, asked)
-                for other in not_as_told(p, q, g, shown):
-                    self.answers(sg_check, (p, q, g, y, other), [-2])
+            for y, right, wrong in right_and_wrong(p, q, g):
+                self.answers(sg_check, (p, q, g, y, right), [1])
+                self.answers(sg_check, (p, q, g, y, wrong), [-2])
 
     def test_equation_without_elements(self):
         # -4 is no element of 2's powers modulo 23, nor is -8; still the equation would be met.

@@ -20,6 +20,8 @@ ARGUMENTS = {
     "sg_check": ["p", "q", "g", "y", "shown"],
     "sg_make": ["p", "q", "g", "y", "asked", "answer"],
     "sg_find": ["p", "q", "g", "y", "s", "t"],
+    "sg_same": ["p", "q", "g", "h", "y", "z", "s", "t"],
+    "sg_either": ["p", "q", "g", "y", "z", "asked", "s", "t"],
 }
 
 USED_OF_PYTHON = {"range"}
@@ -41,6 +43,10 @@ def many_calls():
                 calls.append((knowing.sg_check, (p, q, g, base, shown)))
                 calls.append((knowing.sg_find, (p, q, g, base, shown, [1, 0, 0])))
                 calls.append((knowing.sg_find, (p, q, g, base, shown, shown)))
+                calls.append((knowing.sg_same, (p, q, g, g, base, base, shown, shown)))
+                calls.append((knowing.sg_same, (p, q, g, base, g, 1, shown, [1, 1, 1])))
+                calls.append((knowing.sg_either, (p, q, g, base, g, x, shown, [1, 0, 0])))
+                calls.append((knowing.sg_either, (p, q, g, base, base, 0, shown, shown)))
     return calls
 
 
@@ -56,6 +62,9 @@ class Interface(unittest.TestCase):
             for parameter in parameters.values():
                 self.assertIs(parameter.default, inspect.Parameter.empty)
 
+    def test_these_calls_alone(self):
+        self.assertEqual([name for name in vars(knowing) if name.startswith("sg_")], list(ARGUMENTS))
+
     def test_arguments_by_name(self):
         self.assertEqual(knowing.sg_good(g=2, q=11, p=23), [1])
         self.assertEqual(knowing.sg_power(x=5, base=2, g=2, q=11, p=23), [0, 9])
@@ -63,6 +72,11 @@ class Interface(unittest.TestCase):
         self.assertEqual(knowing.sg_check(shown=[8, 5, 1], y=16, g=2, q=11, p=23), [1])
         self.assertEqual(knowing.sg_make(answer=1, asked=5, y=16, g=2, q=11, p=23), [0, 8])
         self.assertEqual(knowing.sg_find(t=[8, 2, 0], s=[8, 5, 1], y=16, g=2, q=11, p=23), [0, 4])
+        self.assertEqual(knowing.sg_same(t=[4, 5, 1], s=[8, 5, 1], z=12, y=16, h=3, g=2, q=11, p=23), [1])
+        self.assertEqual(knowing.sg_either(t=[6, 9, 6], s=[8, 5, 1], asked=3, z=13, y=16, g=2, q=11, p=23), [1])
+
+    def test_every_call_is_tried(self):
+        self.assertEqual({call.__name__ for call, handed_in in many_calls()}, set(ARGUMENTS))
 
     def test_nothing_is_kept(self):
         calls = many_calls()
